@@ -1,0 +1,1 @@
+"""A beach kept, whole: beachkept.beach.answers answers calls about a watched beach."""
