@@ -1,24 +1,10 @@
 """The calls that change a beach. Each looks at all refusals, in the order they are told, ahead of the change."""
 
+from beachkept.limits import LAST_MINUTE, LONGEST_REACH, LONGEST_RESCUE, LONGEST_SHORE, MOST_EACH, MOST_EVER_IN
+from beachkept.limits import MOST_MINUTES, MOST_RESCUES, MOST_TOWERS, MOST_ZONES, ROUGHEST, is_within
 from beachkept.refusals import FULL, NOBODY, NONE_THERE, SO_ALREADY, TOO_FEW, TOO_LATE, UNWATCHED, WRONG
 from beachkept.shore import Tower, Zone
-from beachkept.watch import cleared_from, must_now, must_without, nearest_tower, room_in
-
-LONGEST_SHORE = 10000
-MOST_EACH = 100
-MOST_ZONES = 5
-MOST_TOWERS = 8
-LONGEST_REACH = 10000
-MOST_EVER_IN = 20000
-ROUGHEST = 100
-MOST_MINUTES = 1440
-LAST_MINUTE = 100000
-LONGEST_RESCUE = 240
-MOST_RESCUES = 1000
-
-
-def is_within(number, least, most):
-    return least <= number and number <= most
+from beachkept.watch import cleared_from, minutes_away, must_now, must_without, nearest_tower, room_in
 
 
 def be_start(beach, length, each):
@@ -135,3 +121,13 @@ def be_clear(beach):
         beach.zones[k].swimmers = beach.zones[k].swimmers - fewer
         came_out = came_out + fewer
     return [came_out]
+
+
+def be_return(beach, k):
+    if k >= len(beach.towers):
+        return [NONE_THERE]
+    early = minutes_away(beach, beach.towers[k])
+    if early == 0:
+        return [SO_ALREADY]
+    beach.towers[k].away_until = beach.minute
+    return [early]

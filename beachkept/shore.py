@@ -10,6 +10,12 @@ class Zone:
         self.red = 0
         self.swimmers = 0
 
+    def copied(self):
+        other = Zone(self.begin, self.end)
+        other.red = self.red
+        other.swimmers = self.swimmers
+        return other
+
 
 class Tower:
     """A place to watch from, with its guard."""
@@ -19,6 +25,12 @@ class Tower:
         self.reach = reach
         self.on_duty = 0
         self.away_until = 0
+
+    def copied(self):
+        other = Tower(self.at, self.reach)
+        other.on_duty = self.on_duty
+        other.away_until = self.away_until
+        return other
 
 
 class Beach:
@@ -36,3 +48,6 @@ class Beach:
         self.minute = 0
         self.went_in = 0
         self.rescues = 0
+        # The moments before the last changes, and those from which changes were taken back; the last is the nearest.
+        self.earlier = []
+        self.taken_back = []

@@ -1,16 +1,20 @@
 """Who watches whom: how many must come out, where there is room, which towers are enough, who is nearest."""
 
 from beachkept.bits import bits_of, has, sums_of_sets, unions_of_sets
-
-MOST_IN_ZONE = 1000
+from beachkept.limits import MOST_IN_ZONE
 
 
 def reach_now(beach, tower):
     return tower.reach * (100 - beach.rough) // 100
 
 
+def minutes_away(beach, tower):
+    """For how many minutes its guard is away yet."""
+    return max(0, tower.away_until - beach.minute)
+
+
 def is_back(beach, tower):
-    return tower.away_until <= beach.minute
+    return minutes_away(beach, tower) == 0
 
 
 def guard_is_there(beach, tower):
@@ -22,6 +26,10 @@ def would_watch(beach, tower, zone):
     reach = reach_now(beach, tower)
     reaches_all = abs(zone.begin - tower.at) <= reach and abs(zone.end - tower.at) <= reach
     return is_back(beach, tower) and zone.red == 0 and reaches_all
+
+
+def watches(beach, tower, zone):
+    return tower.on_duty == 1 and would_watch(beach, tower, zone)
 
 
 def towers_for(beach, zone):
@@ -74,8 +82,8 @@ def must_without(beach, k):
     return ZoneSets(beach).must_come_out(towers_on_duty(beach) - (1 << k))
 
 
-def swimmers_in_all(beach):
-    return sum([zone.swimmers for zone in beach.zones])
+def swimmers_in(zones):
+    return sum([zone.swimmers for zone in zones])
 
 
 def room_in(beach, k):

@@ -1,8 +1,11 @@
-"""For the tests: calls laid one behind another, and a plain reading of the document, kept apart from the program.
+"""For the tests: calls laid one behind another, beaches to start from, and a plain reading of the document.
 
-The reading goes over all sets one by one, lets swimmers come out one by one, and knows no short cut.
+The reading is kept apart from the program. It goes over all sets one by one, lets swimmers come out one by one, and
+knows no short cut.
 """
 
+import unittest
+from functools import lru_cache
 from itertools import chain, combinations
 
 from beachkept.beach import answers
@@ -11,8 +14,10 @@ TOP = 4294967295
 
 NAMES = (
     "start", "zone", "tower", "man", "flag", "in", "out", "rough", "minutes", "rescue", "clear", "safe", "must",
-    "room", "few",
+    "room", "few", "without", "over", "covers", "nearest", "reach", "look", "see", "return", "passes", "lane", "gaps",
+    "sums", "back", "again", "state",
 )
+CHANGES = ("zone", "tower", "man", "flag", "in", "out", "rough", "minutes", "rescue", "clear", "return")
 
 
 def lay(line):
@@ -41,6 +46,61 @@ def last(line):
     return run(line)[-1]
 
 
+# Tower 0 watches zone 0; tower 1 zones 0 and 1, with its last metre; tower 2 zone 2, with its last metre.
+PLACES = [
+    ("start", 1000, 10),
+    ("zone", 100, 200), ("zone", 150, 300), ("zone", 600, 700),
+    ("tower", 150, 60), ("tower", 200, 100), ("tower", 650, 50),
+]
+MANNED = PLACES + [("man", 0, 1), ("man", 1, 1), ("man", 2, 1)]
+SWUM = MANNED + [("in", 0, 12), ("in", 1, 7), ("in", 2, 10)]
+AWAY = SWUM + [("minutes", 30), ("rescue", 640, 20)]
+
+# All that a change can change.
+SHOWS = [("sums",)] + [("look", k) for k in range(6)] + [("see", k) for k in range(9)] + [("state",)]
+LOOKS = (
+    SHOWS + [("safe",), ("must",), ("few",), ("gaps",)] + [("room", k) for k in range(6)]
+    + [(word, k) for word in ("without", "covers", "reach") for k in range(9)]
+    + [("over", zones) for zones in (0, 1, 2, 4, 7, 31, 32)] + [("nearest", x) for x in (0, 400, 1000, 1001)]
+)
+# Asks all that can be asked, goes through all that was changed, then changes all that can be changed.
+PROBES = (
+    LOOKS
+    + [("again",), ("state",), ("sums",)] * 31 + [("back",), ("state",), ("sums",)] * 31 + [("again",)] * 31
+    + LOOKS
+    + [("return", k) for k in range(9)] + [("back",)] * 9
+    + [("man", k, on) for k in range(9) for on in (1, 0)] + LOOKS
+    + [("flag", k, red) for k in range(6) for red in (1, 0)] + LOOKS
+    + [("in", k, 1) for k in range(6)] + [("out", k, 2) for k in range(6)] + LOOKS
+    + [("minutes", 1), ("clear",), ("rescue", 0, 7), ("rescue", 1000, 7), ("minutes", 19)] + LOOKS
+    + [("rough", p) for p in (40, 17, 1, 0)] + LOOKS
+    + [("zone", 0, 1000)] * 6 + [("tower", 1000, 10000)] * 9 + LOOKS
+)
+# Leaves all as it was, but for two changes that can be done again.
+DETOUR = [("rough", 3), ("rough", 30), ("back",), ("back",)]
+
+
+@lru_cache(maxsize=100)
+def probed(line):
+    return run(list(line) + PROBES)[len(line):]
+
+
+class CallTest(unittest.TestCase):
+    def answered(self, line, call, answer):
+        self.assertEqual(last(line + [call]), answer, call)
+
+    def refused(self, line, call, refusal):
+        for begun in (line, line + DETOUR):
+            after = run(begun + [call] + PROBES)[len(begun):]
+            self.assertEqual(after[0], [refusal], call)
+            self.assertEqual(after[1:], probed(tuple(begun)), call)
+
+    def all_refused(self, line, calls, refusal):
+        for call in calls:
+            with self.subTest(call=call):
+                self.refused(line, call, refusal)
+
+
 def all_sets(members):
     members = list(members)
     return chain.from_iterable(combinations(members, size) for size in range(len(members) + 1))
@@ -57,7 +117,20 @@ class Reading:
         self.length = self.each = 0
 
     def call(self, call):
-        return getattr(self, "be_" + call[0])(*call[1:])
+        """Answers a call; if it is a change, it can be taken back then."""
+        before = self.copied() if call[0] in CHANGES else None
+        answered = getattr(self, "be_" + call[0])(*call[1:])
+        if before is not None and answered[0] >= 0:
+            self.past = (self.past + [before])[-30:]
+            self.future = []
+        return answered
+
+    def copied(self):
+        zones, towers = [dict(zone) for zone in self.zones], [dict(tower) for tower in self.towers]
+        return zones, towers, self.rough, self.minute, self.went_in, self.came_out, self.rescues
+
+    def become(self, copied):
+        self.zones, self.towers, self.rough, self.minute, self.went_in, self.came_out, self.rescues = copied
 
     # "The beach"
 
@@ -98,6 +171,11 @@ class Reading:
         left = min(self.can_watch(zones, self.duty()) - self.swim(zones) for zones in with_it)
         return min(left, 1000 - self.zones[k]["swim"])
 
+    def nearest(self, x):
+        """How far, and which tower; None if no guard is there."""
+        there = [t for t in self.duty() if self.is_there(t, self.duty())]
+        return min(((abs(self.towers[t]["at"] - x), t) for t in there), default=None)
+
     # "The promises"
 
     def be_start(self, length, each):
@@ -106,6 +184,7 @@ class Reading:
         self.length, self.each = length, each
         self.zones, self.towers = [], []
         self.rough = self.minute = self.went_in = self.came_out = self.rescues = 0
+        self.past, self.future = [], []
         return [0]
 
     def be_zone(self, begin, end):
@@ -189,10 +268,9 @@ class Reading:
             return [-22]
         if self.rescues >= 1000:
             return [-28]
-        there = [t for t in self.duty() if self.is_there(t, self.duty())]
-        if not there:
+        if self.nearest(x) is None:
             return [-6]
-        far, tower = min((abs(self.towers[t]["at"] - x), t) for t in there)
+        far, tower = self.nearest(x)
         self.towers[tower]["away"] = self.minute + n
         self.rescues += 1
         return [tower, far, self.must()]
@@ -211,6 +289,15 @@ class Reading:
                 self.came_out += 1
         return [self.came_out - before]
 
+    def be_return(self, k):
+        if k >= len(self.towers):
+            return [-2]
+        early = self.towers[k]["away"] - self.minute
+        if early <= 0:
+            return [-17]
+        self.towers[k]["away"] = self.minute
+        return [early]
+
     def be_safe(self):
         return [int(self.must() == 0), self.swim(range(len(self.zones)))]
 
@@ -228,6 +315,88 @@ class Reading:
         sets = all_sets(range(len(self.towers)))
         enough = [(len(towers), as_bits(towers)) for towers in sets if self.must(towers) == 0]
         return list(min(enough)) if enough else [-33]
+
+    def be_without(self, k):
+        if k >= len(self.towers):
+            return [-2]
+        if not self.towers[k]["on"]:
+            return [-6]
+        return [self.must([t for t in self.duty() if t != k])]
+
+    def be_over(self, zones):
+        if zones not in [as_bits(members) for members in all_sets(range(len(self.zones)))]:
+            return [-22]
+        named = [z for z in range(len(self.zones)) if zones & 2 ** z]
+        towers = [t for t in range(len(self.towers)) if any(self.watches(t, z, self.duty()) for z in named)]
+        return [len(towers), as_bits(towers), self.swim(named)]
+
+    def be_covers(self, k):
+        if k >= len(self.towers):
+            return [-2]
+        zones = [z for z in range(len(self.zones)) if self.watches(k, z, self.duty())]
+        return [len(zones), as_bits(zones)]
+
+    def be_nearest(self, x):
+        if x > self.length:
+            return [-22]
+        if self.nearest(x) is None:
+            return [-6]
+        far, tower = self.nearest(x)
+        return [tower, far]
+
+    def be_reach(self, k):
+        return [self.reach(k), int(self.is_there(k, self.duty()))] if k < len(self.towers) else [-2]
+
+    def be_look(self, k):
+        if k >= len(self.zones):
+            return [-2]
+        zone = self.zones[k]
+        return [zone["swim"], zone["from"], zone["to"], int(zone["red"])]
+
+    def be_see(self, k):
+        if k >= len(self.towers):
+            return [-2]
+        tower = self.towers[k]
+        return [tower["at"], tower["reach"], int(tower["on"]), max(0, tower["away"] - self.minute)]
+
+    def be_passes(self, wide, n, sight):
+        if not 1 <= n <= 100 or not 1 <= sight <= 100 or wide > 10000:
+            return [-22]
+        passes = seen = 0
+        while seen < wide:
+            passes += 1
+            seen += n * sight
+        return [passes]
+
+    def be_lane(self, n, sight, turn, k):
+        if not 1 <= n <= 100 or not 1 <= sight <= 100 or turn > 10000 or k >= n:
+            return [-22]
+        return [2 * (n * sight * turn + k * sight) + sight]
+
+    def be_gaps(self):
+        towers = range(len(self.towers))
+        zones = [z for z in range(len(self.zones)) if not any(self.watches(t, z, self.duty()) for t in towers)]
+        return [len(zones), as_bits(zones)]
+
+    def be_sums(self):
+        return [self.went_in, self.swim(range(len(self.zones))), self.came_out, self.rescues]
+
+    def be_back(self):
+        if not self.past:
+            return [-2]
+        self.future.append(self.copied())
+        self.become(self.past.pop())
+        return [len(self.past)]
+
+    def be_again(self):
+        if not self.future:
+            return [-2]
+        self.past.append(self.copied())
+        self.become(self.future.pop())
+        return [len(self.future)]
+
+    def be_state(self):
+        return [self.minute, len(self.zones), len(self.towers), self.rough, len(self.past), len(self.future)]
 
     # "What holds"
 

@@ -1,48 +1,11 @@
-"""Each call: what it answers, each refusal at its edges, which of two is told, and that a refusal changes nothing."""
+"""The calls 0 to 14, each: what it answers, each refusal at its edges, which of two is told, and that a refusal changes nothing."""
 
 import unittest
 
 from beachkept.asks import be_room
 from beachkept.changes import be_in, be_man, be_tower, be_zone
 from beachkept.shore import Beach
-from tests.reading import TOP, last, run
-
-# Tower 0 watches zone 0; tower 1 zones 0 and 1, with its last metre; tower 2 zone 2, with its last metre.
-PLACES = [
-    ("start", 1000, 10),
-    ("zone", 100, 200), ("zone", 150, 300), ("zone", 600, 700),
-    ("tower", 150, 60), ("tower", 200, 100), ("tower", 650, 50),
-]
-MANNED = PLACES + [("man", 0, 1), ("man", 1, 1), ("man", 2, 1)]
-SWUM = MANNED + [("in", 0, 12), ("in", 1, 7), ("in", 2, 10)]
-AWAY = SWUM + [("minutes", 30), ("rescue", 640, 20)]
-
-LOOKS = [("safe",), ("must",), ("few",)] + [("room", k) for k in range(6)]
-# Asks all that can be asked, then changes all that can be changed, so that every part of the state shows.
-PROBES = (
-    LOOKS
-    + [("man", k, on) for k in range(9) for on in (1, 0)] + LOOKS
-    + [("flag", k, red) for k in range(6) for red in (1, 0)] + LOOKS
-    + [("in", k, 1) for k in range(6)] + [("out", k, 2) for k in range(6)] + LOOKS
-    + [("minutes", 1), ("clear",), ("rescue", 0, 7), ("rescue", 1000, 7), ("minutes", 19)] + LOOKS
-    + [("rough", p) for p in (40, 17, 1, 0)] + LOOKS
-    + [("zone", 0, 1000)] * 6 + [("tower", 1000, 10000)] * 9 + LOOKS
-)
-
-
-class CallTest(unittest.TestCase):
-    def answered(self, line, call, answer):
-        self.assertEqual(last(line + [call]), answer, call)
-
-    def refused(self, line, call, refusal):
-        self.assertEqual(last(line + [call]), [refusal], call)
-        after = run(line + [call] + PROBES)[len(line) + 1:]
-        self.assertEqual(after, run(line + PROBES)[len(line):], call)
-
-    def all_refused(self, line, calls, refusal):
-        for call in calls:
-            with self.subTest(call=call):
-                self.refused(line, call, refusal)
+from tests.reading import AWAY, LOOKS, MANNED, PLACES, PROBES, SWUM, TOP, CallTest, last, run
 
 
 class Start(CallTest):

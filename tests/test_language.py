@@ -16,8 +16,8 @@ NODES = (
     ast.Slice, ast.ListComp, ast.comprehension, ast.Name, ast.expr_context, ast.boolop, ast.unaryop, ast.cmpop,
     ast.Add, ast.Sub, ast.Mult, ast.FloorDiv, ast.Mod, ast.BitOr, ast.BitAnd, ast.BitXor, ast.LShift, ast.RShift,
 )
-OWN_NAMES = ("len", "range", "enumerate", "zip", "min", "max", "sum", "abs", "sorted", "reversed", "list", "tuple")
-METHODS = ("append", "extend", "index", "copy", "pop", "clear", "get", "items", "insert")
+OWN_NAMES = ("len", "range", "enumerate", "zip", "min", "max", "sum", "abs", "sorted", "reversed", "list", "tuple", "any")
+METHODS = ("append", "extend", "index", "copy", "count", "pop", "clear", "get", "items", "insert")
 WALKED = ("zip", "enumerate", "reversed", "range")
 WORDS = (
     "type", "typing", "typing_extensions", "enum", "Enum", "IntEnum", "StrEnum", "Flag", "IntFlag", "Generic",
